@@ -1,0 +1,1 @@
+"""Flameward: a flame kept by candles that get damp."""
