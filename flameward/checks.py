@@ -1,11 +1,14 @@
-"""What candles, lots and turns are; anything else is refused."""
+"""What candles, lots, turns, times and few candles are; anything else is refused."""
 
-from flameward.errors import BadCandles, BadLot
+from flameward.errors import BadCandles, BadCount, BadLot, TooMany
 
 MOST_CANDLES = 12
 LONGEST_LENGTH = 99
 LATEST_DAMP = 999
 HIGHEST_PRICE = 99
+LATEST_TIME = 9999
+# What goes over all turns, or over all pairs of lots, takes no more candles than these.
+MOST_OF_FEW = 8
 
 
 def is_whole(number):
@@ -54,3 +57,17 @@ def check_turn(candles, turn):
     for place, number in enumerate(turn):
         if not is_candle_number(candles, number) or number in turn[:place]:
             raise BadLot(place)
+
+
+def check_within(number, low, high):
+    if not is_within(number, low, high):
+        raise BadCount()
+
+
+def check_time(time):
+    check_within(time, 0, LATEST_TIME)
+
+
+def check_few(candles):
+    if len(candles) > MOST_OF_FEW:
+        raise TooMany()

@@ -2,20 +2,21 @@
 
 from flameward.checks import check_candles, check_lot, check_turn, is_candle_number, is_within
 from flameward.errors import BadPlan
+from flameward.lighting import all_numbers, by_latest_end, latest_end, lit_in_turn
 
 
 def longest(candles):
     """Tell (time, plan): the longest watch, and a plan of it."""
     check_candles(candles)
     # No turn lasts longer than this one: it comes to the least of the bounds.
-    return lit_by_turn(candles, by_latest_end(candles))
+    return planned(candles, by_latest_end(candles, all_numbers(candles)))
 
 
 def by_turn(candles, turn):
     """Tell (time, plan) of the watch in which the candles are lit in this turn."""
     check_candles(candles)
     check_turn(candles, turn)
-    return lit_by_turn(candles, turn)
+    return planned(candles, turn)
 
 
 def bounds(candles, lot, limit):
@@ -69,26 +70,9 @@ def is_step(candles, step):
     return isinstance(step, tuple) and len(step) == 2 and is_candle_number(candles, step[0])
 
 
-def latest_end(candle):
-    length, damp, _ = candle
-    return damp + length
-
-
-def by_latest_end(candles):
-    ends = [(latest_end(candle), number) for number, candle in enumerate(candles)]
-    return [number for _, number in sorted(ends)]
-
-
-def lit_by_turn(candles, turn):
-    lasts = 0
-    lit = []
-    for number in turn:
-        length, damp, _ = candles[number]
-        time = min(lasts, damp)
-        if time + length > lasts:
-            lit.append((time, number))
-            lasts = time + length
-    return lasts, [(number, time) for time, number in sorted(lit)]
+def planned(candles, turn):
+    lasts, steps = lit_in_turn(candles, turn, 0)
+    return lasts, [(number, time) for time, number in sorted(steps)]
 
 
 def lengths_together(candles, lot):

@@ -1,6 +1,7 @@
 """Candles, wrong values and slow but plain answers, for the tests."""
 
 import copy
+import functools
 import itertools
 
 WRONG_KINDS = (None, True, False, 0, 5, "", "candle 5 12 3", {}, b"")
@@ -8,9 +9,13 @@ WRONG_KINDS = (None, True, False, 0, 5, "", "candle 5 12 3", {}, b"")
 # What stands in a number's place, but is no whole number.
 NO_NUMBERS = (None, True, False, "1", "", (), (1,), [], [1])
 
+# What stands in a count's place, but is no count at all.
+NO_COUNTS = (None, True, False, "1", "", (), (1,), [], -1, -(10 ** 30), 10 ** 30)
+
 ABC = ((5, 12, 3), (9, 0, 1), (4, 2, 7))
 
 
+@functools.lru_cache(maxsize=None)
 def plain_longest(candles, lot):
     """Try every plan of the lot, step by step, and tell how long the best lasts."""
     best = 0
@@ -52,6 +57,25 @@ def all_lots(many):
         yield from itertools.combinations(range(many), size)
 
 
+def plain_keeping(candles, time):
+    """All lots that keep to the time, by every plan of each."""
+    return [lot for lot in all_lots(len(candles)) if plain_longest(candles, lot) >= time]
+
+
+def price_of(candles, lot):
+    return sum(candles[number][2] for number in lot)
+
+
+def cheap(candles):
+    """The same candles with prices of which many are like."""
+    return tuple((length, damp, price % 3 + 1) for length, damp, price in candles)
+
+
+def small_candles(seeds, many=4, lengths=4, damps=6):
+    """Candles for which all plans can be tried; each time the same."""
+    return [cheap(mixed_candles(many, seed, lengths, damps)) for seed in range(seeds)]
+
+
 def mixed_candles(many, seed, lengths=99, damps=999):
     """Candles without a pattern, but the same ones each time."""
     made = []
@@ -81,13 +105,13 @@ class Untouched:
 
 
 def refused(test, error, number, call, *handed):
-    """Check that the call is refused by that very error, twice, and changes nothing."""
+    """Check that the call is refused by that very error (number None: it has none), twice, and changes nothing."""
     for _ in range(2):
         with Untouched(test, *handed):
             with test.assertRaises(error) as caught:
                 call(*handed)
         test.assertIs(caught.exception.__class__, error, handed)
-        test.assertEqual(caught.exception.number, number, handed)
+        test.assertEqual(repr(getattr(caught.exception, "number", None)), repr(number), handed)
 
 
 def told(test, worth, call, *handed):

@@ -3,6 +3,9 @@
 import unittest
 
 from flameward.errors import BadCandles, BadLot, BadPlan
+from flameward.lots import cheapest, fewest, keeps, lean, one_more, robbed, slack, spare, turns, two
+from flameward.night import Night
+from flameward.notes import written
 from flameward.watch import bound, bounds, by_turn, judged, longest
 from samples import ABC, NO_NUMBERS, WRONG_KINDS, refused, told
 
@@ -18,18 +21,35 @@ CALLS = (
     lambda candles: bound(candles, ()),
     lambda candles: bounds(candles, (), None),
     lambda candles: judged(candles, []),
+    lambda candles: keeps(candles, (), 0),
+    lambda candles: cheapest(candles, 0),
+    lambda candles: fewest(candles, 0),
+    lambda candles: spare(candles, 0),
+    lambda candles: lean(candles, 0),
+    lambda candles: one_more(candles, 0, 0),
+    lambda candles: robbed(candles, 0),
+    Night,
+    written,
+)
+# These refuse some candles that can be, too; but all that can't be, as the others do.
+OTHER_CALLS = (
+    turns,
+    lambda candles: two(candles, 0),
+    lambda candles: slack(candles, 0, 0),
 )
 
 
 class Candles(unittest.TestCase):
     def refuse(self, number, candles):
-        for call in CALLS:
+        for call in CALLS + OTHER_CALLS:
             refused(self, BadCandles, number, call, candles)
 
     def test_none_to_twelve_candles_can_be(self):
         for many in range(13):
             candles = (GOOD,) * many
             for call in CALLS:
+                call(candles)
+            for call in OTHER_CALLS if 1 <= many <= 8 else ():
                 call(candles)
 
     def test_a_thirteenth_can_not_be(self):
@@ -69,6 +89,8 @@ class Candles(unittest.TestCase):
 class Lots(unittest.TestCase):
     def refuse(self, number, candles, lot):
         refused(self, BadLot, number, bound, candles, lot)
+        for time in (0, 9999, 10000, None):
+            refused(self, BadLot, number, keeps, candles, lot, time)
         for limit in (None, 0, 1, 77, True, "x"):
             refused(self, BadLot, number, bounds, candles, lot, limit)
 
@@ -79,6 +101,7 @@ class Lots(unittest.TestCase):
         for lot in ((), (0,), (2,), (0, 1), (0, 2), (1, 2), (0, 1, 2)):
             bound(ABC, lot)
             by_turn(ABC, lot)
+            keeps(ABC, lot, 0)
 
     def test_no_tuple(self):
         for wrong in WRONG_KINDS + ([], [0], [0, 1]):

@@ -5,7 +5,7 @@ import inspect
 import pathlib
 import unittest
 
-from flameward import errors, watch
+from flameward import errors, lots, night, notes, watch
 
 NUMBERED = (errors.BadCandles, errors.BadPlan, errors.BadLot, errors.BadDeed)
 PLAIN = (errors.BadCount, errors.NoWatch, errors.TooMany)
@@ -48,19 +48,61 @@ class Errors(unittest.TestCase):
         self.assertEqual(names - defined_in(errors), set())
 
 
-class Functions(unittest.TestCase):
+WANTED = {
+    watch: {
+        "longest": ["candles"],
+        "by_turn": ["candles", "turn"],
+        "bound": ["candles", "lot"],
+        "bounds": ["candles", "lot", "limit"],
+        "judged": ["candles", "plan"],
+    },
+    lots: {
+        "keeps": ["candles", "lot", "time"],
+        "cheapest": ["candles", "time"],
+        "fewest": ["candles", "time"],
+        "spare": ["candles", "time"],
+        "lean": ["candles", "time"],
+        "slack": ["candles", "time", "number"],
+        "one_more": ["candles", "time", "damp"],
+        "robbed": ["candles", "many"],
+        "turns": ["candles"],
+        "two": ["candles", "time"],
+    },
+    night: {"Night": ["candles"]},
+    notes: {"written": ["candles"], "read": ["text"]},
+}
+METHODS = {
+    "do": ["self", "deed"],
+    "best": ["self"],
+    "time": ["self"],
+    "back": ["self"],
+    "batch": ["self", "deeds", "keep"],
+    "burning": ["self"],
+    "unlit": ["self"],
+    "deeds": ["self"],
+}
+
+
+class Interface(unittest.TestCase):
     def test_names_and_arguments(self):
-        wanted = {
-            "longest": ["candles"],
-            "by_turn": ["candles", "turn"],
-            "bound": ["candles", "lot"],
-            "bounds": ["candles", "lot", "limit"],
-            "judged": ["candles", "plan"],
-        }
-        for name, arguments in wanted.items():
-            function = getattr(watch, name)
-            self.assertEqual(list(inspect.signature(function).parameters), arguments)
-        self.assertEqual(set(wanted) - defined_in(watch), set())
+        for module, wanted in WANTED.items():
+            for name, arguments in wanted.items():
+                parameters = inspect.signature(getattr(module, name)).parameters
+                self.assertEqual(list(parameters), arguments, name)
+
+    def test_each_is_defined_in_its_file(self):
+        for module, wanted in WANTED.items():
+            self.assertEqual(set(wanted) - defined_in(module), set())
+
+    def test_methods_of_a_night_stand_in_the_class_itself(self):
+        for name, arguments in METHODS.items():
+            method = vars(night.Night)[name]
+            self.assertEqual(list(inspect.signature(method).parameters), arguments, name)
+
+    def test_keep_stands_behind_the_star_and_is_true(self):
+        keep = inspect.signature(night.Night.batch).parameters["keep"]
+        self.assertIs(keep.kind, inspect.Parameter.KEYWORD_ONLY)
+        self.assertIs(keep.default, True)
 
     def test_arguments_may_be_handed_in_by_name(self):
         candles = ((5, 0, 1),)
@@ -69,6 +111,20 @@ class Functions(unittest.TestCase):
         self.assertEqual(watch.bound(lot=(0,), candles=candles), (5, None))
         self.assertEqual(watch.bounds(limit=0, lot=(0,), candles=candles), 5)
         self.assertEqual(watch.judged(plan=[(0, 0)], candles=candles), 5)
+        self.assertEqual(lots.keeps(time=5, lot=(0,), candles=candles), True)
+        self.assertEqual(lots.cheapest(time=5, candles=candles), (1, (0,)))
+        self.assertEqual(lots.fewest(time=5, candles=candles), (1, (0,)))
+        self.assertEqual(lots.spare(time=5, candles=candles), [])
+        self.assertEqual(lots.lean(time=5, candles=candles), (0,))
+        self.assertEqual(lots.slack(number=0, time=5, candles=candles), (5, 0))
+        self.assertEqual(lots.one_more(damp=5, time=6, candles=candles), 1)
+        self.assertEqual(lots.robbed(many=1, candles=candles), (0, (0,)))
+        self.assertEqual(lots.turns(candles=candles), 1)
+        self.assertEqual(lots.two(time=0, candles=candles), (0, (), ()))
+        self.assertEqual(night.Night(candles=candles).do(deed=("light", 0)), 5)
+        self.assertEqual(night.Night(candles=candles).batch(keep=False, deeds=[("light", 0)]), [5])
+        self.assertEqual(notes.written(candles=candles), "candle 5 0 1")
+        self.assertEqual(notes.read(text="candle 5 0 1"), candles)
 
 
 if __name__ == "__main__":
